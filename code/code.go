@@ -108,7 +108,7 @@ func Text(c api.Command) (string, error) {
 		l = append(l, strconv.Itoa(c.At))
 	}
 	if k.stays {
-		l = append(l, staysText(c.Stays))
+		l = append(l, StaysText(c.Stays))
 	}
 	if k.data {
 		l = append(l, dataText(c.Data))
@@ -119,7 +119,8 @@ func Text(c api.Command) (string, error) {
 	return strings.Join(l, " "), nil
 }
 
-func staysText(b bool) string {
+// StaysText: the word for whether something stays when power is lost.
+func StaysText(b bool) string {
 	if b {
 		return stays
 	}
@@ -152,19 +153,19 @@ func guess(s string) api.Command {
 		s = rest
 		return word
 	}
-	c := api.Command{Who: number(next()), Op: opOf(next())}
+	c := api.Command{Who: Number(next()), Op: opOf(next())}
 	k := kinds()[c.Op]
 	if k.key {
-		c.Key = number(next())
+		c.Key = Number(next())
 	}
 	if k.fresh {
-		c.New = number(next())
+		c.New = Number(next())
 	}
 	if k.held {
-		c.Type = number(next())
+		c.Type = Number(next())
 	}
 	if k.at {
-		c.At = number(next())
+		c.At = Number(next())
 	}
 	if k.stays {
 		c.Stays = next() == stays
@@ -178,8 +179,8 @@ func guess(s string) api.Command {
 	return c
 }
 
-// number that a word tells; -1, which no command has: it tells none.
-func number(word string) int {
+// Number that a word tells, odd spellings too (who asks holds the whole text against what was read); -1, which neither a command nor a state has: it tells none.
+func Number(word string) int {
 	n, err := strconv.Atoi(word)
 	if err != nil {
 		return -1
