@@ -111,10 +111,10 @@ func Text(c api.Command) (string, error) {
 		l = append(l, StaysText(c.Stays))
 	}
 	if k.data {
-		l = append(l, dataText(c.Data))
+		l = append(l, DataText(c.Data))
 	}
 	if k.want {
-		l = append(l, dataText(c.Want))
+		l = append(l, DataText(c.Want))
 	}
 	return strings.Join(l, " "), nil
 }
@@ -127,7 +127,8 @@ func StaysText(b bool) string {
 	return goes
 }
 
-func dataText(s string) string {
+// DataText: data as a word, also if it has no bytes.
+func DataText(s string) string {
 	if s == "" {
 		return empty
 	}
